@@ -1,0 +1,114 @@
+"""The examples of the interface, file by file, as the document has them."""
+
+EXAMPLES = (
+    ('checks', '''
+>>> [is_integer(True), is_within(3, None, 3), is_name("a1"), are_integers([1, True]), is_ratio((2, 4)), is_ratio([-3, 2]), is_lot([0, 2], 2), is_lot((0, 2), 3), first_twice([2, 1, 1, 2])]
+[False, True, True, False, False, True, False, True, 1]
+>>> [common_divisor([-12, 18, 0]), common_divisor([]), lowest(6, -4), compared((1, 3), (3, 10)), compared((-1, 2), (0, 1))]
+[6, 0, (-3, 2), 1, -1]
+'''),
+    ('papers', '''
+>>> note = Paper("note", [1, (2, [3])])
+>>> [note.parts, bool(note), bool(Denial("no")), note == Denial("note", [1, (2, [3])])]
+[((1, (2, (3,))),), True, False, False]
+'''),
+    ('books', '''
+>>> book = Book([11, 5], [(0, 0, 7), (1, 0, 3)])
+>>> [str(book), book.sorts, book.is_plain, book.things_at(1, 10), Book([11], [(0, 0, 7)]).is_plain]
+['11 5 : 0 0 7 / 0 1 3', ((0, 0, 7), (0, 1, 3)), False, 100000, True]
+>>> [str(book.with_size(1, 6)), str(book.with_thinness(0, 8)), str(Book([2]).with_sort(0, 0, 1)), str(Book([2]))]
+['11 6 : 0 0 7 / 0 1 3', '11 5 : 0 0 8 / 0 1 3', '2 : 0 0 1', '2 : -']
+>>> Book.read("11 5 : 0 0 7 / 1 0 3")
+raises BadText(0, 8)
+>>> book.with_thinness(2, 5)
+raises NoSort(2)
+'''),
+    ('webs', '''
+>>> three, way = Web.all_tied(3), Web([0, 1, 0], [(2, 1, 1), (0, 1, 1)])
+>>> [str(three), str(way), way.ties, str(Web.way(2)), str(Web.ring(4)), str(Web([1]))]
+['0 0 0 : 0 1 0 / 0 2 0 / 1 2 0', '0 1 0 : 0 1 1 / 1 2 1', ((0, 1, 1), (1, 2, 1)), '0 0 0 : 0 1 0 / 1 2 0', '0 0 0 0 : 0 1 0 / 0 3 0 / 1 2 0 / 2 3 0', '1 : -']
+>>> [str(way.part([2, 1])), way.tie_numbers((1, 2)), str(three.without_ties([1])), str(way.with_tie(2, 0, 0)), str(Web([0]).beside(Web([1, 1], [(0, 1, 0)])))]
+['0 1 : 0 1 1', (1,), '0 0 0 : 0 1 0 / 1 2 0', '0 1 0 : 0 1 1 / 0 2 0 / 1 2 1', '0 1 1 : 1 2 0']
+>>> [fits(book, three), fits(book, way), fits(book, Web.way(1, 1)), fits(Book([3]), Web([0, 0]))]
+[True, True, False, True]
+>>> Web([0, 0], [(0, 1, 0), (1, 0, 0)])
+raises Twice((1, 0, 0))
+>>> Web.read("0 0 0 : 1 0 0")
+raises BadText(0, 5)
+'''),
+    ('layings', '''
+>>> [parts(Web.way(1)), many_layings(Web.way(1), three), layings(Web.way(2), Web.way(2)), first_laying(three, Web.ring(4)), turns(three), turns(Web.ring(4))]
+[((0,), (1,), (0, 1)), 6, ((0, 1, 2), (2, 1, 0)), None, 6, 8]
+>>> [alike(way, way.in_order([1, 0, 2])).laying, alike(three, Web.way(2)).what, alike(three, way).what, bool(alike(Web.way(3), Web([0] * 4, [(0, 1, 0), (0, 2, 0), (0, 3, 0)])))]
+[(1, 0, 2), 'ties', 'points', False]
+'''),
+    ('glued', '''
+>>> [str(glued(three, three, [(0, 1), (2, 0)])), str(glued(three, Web.way(1), [(1, 0)])), str(glued(Web([0]), Web([1]), []))]
+['0 0 0 0 : 0 1 0 / 0 2 0 / 0 3 0 / 1 2 0 / 2 3 0', '0 0 0 0 : 0 1 0 / 0 2 0 / 1 2 0 / 1 3 0', '0 1 : -']
+>>> glued(three, way, [(0, 0), (1, 1)])
+raises Misfit('kinds')
+'''),
+    ('weights', '''
+>>> book, four, five = Book([11], [(0, 0, 7)]), Web.all_tied(4), Web.all_tied(5)
+>>> [weight(book, four), weight(book, four, [2, 0]), weight(book, four, []), weight(book, five), least_parts(book, four), least_parts(book, five)]
+[2, 15, 0, -15, (0, (), ()), (-15, (0, 1, 2, 3, 4), (0, 1, 2, 3, 4))]
+>>> even = Book([1], [(0, 0, 1)])
+>>> [least_parts(even, Web.all_tied(3)), least_parts(even, Web([0, 0, 0, 0], [(0, 1, 0), (0, 2, 0), (1, 2, 0), (2, 3, 0)]))]
+[(0, (), (0, 1, 2)), (0, (), (0, 1, 2, 3))]
+>>> weight(book, four, [1, 4, 1])
+raises NoPoint(4)
+'''),
+    ('handings', '''
+>>> [comes(book, four).word, comes(book, five) == Rare([0, 1, 2, 3, 4]), comes(even, Web.ring(4)) == OnBreak((0, 1, 2, 3)), bool(comes(even, Web.way(3)))]
+['comes', True, True, True]
+>>> comes(book, Web([0, 0])).parts
+((),)
+'''),
+    ('heavy', '''
+>>> [heavy_parts(even, four), fewest_struck(even, four), fewest_struck(book, five), fewest_struck(even, Web.ring(4)), heavy_parts(book, four), fewest_struck(book, four)]
+[((0, 1, 2, 3),), (0, 1, 3), (0, 1, 2), (0,), (), ()]
+'''),
+    ('check_weights', '''
+>>> cut = [(28, 0), (14, 14), (0, 28), (28, 0), (14, 14), (28, 0)]
+>>> [shows_comes(book, four, Comes(cut)), shows_comes(book, four, Comes([(29, -1)] + cut[1:])), shows_comes(book, four, Comes(cut[:1] + [(16, 12)] + cut[2:]))]
+[True, False, False]
+>>> [shows_comes(even, four, Rare((0, 1, 2, 3))), shows_comes(even, four, OnBreak((0, 1, 2))), shows_comes(even, Web.ring(3), OnBreak([0, 1, 2]))]
+[True, False, True]
+'''),
+    ('dials', '''
+>>> plain, three, four = Book([11], [(0, 0, 7)]), Web.all_tied(3), Web.all_tied(4)
+>>> [dial(plain, three, 0).parts, dial(plain, four, 0).parts, [comes_at(plain, four, 0, ratio) for ratio in ((7, 1), (22, 3), (15, 2))]]
+[((11, 1), (0, 1, 2)), ((22, 3), (0, 1, 2, 3)), ['comes', 'break', 'rare']]
+>>> tail = Web([0, 0, 0, 0], [(0, 1, 0), (0, 3, 0), (1, 3, 0), (2, 3, 0)])
+>>> dial(plain, tail, 0).parts
+((11, 1), (0, 1, 3))
+>>> twice = Book([1, 2], [(0, 0, 2), (0, 1, 1)])
+>>> bent = Web([0, 0, 1], [(0, 1, 0), (1, 2, 1)])
+>>> [dial(twice, Web([0, 1], [(0, 1, 1)]), 0).word, dial(twice, bent, 1).word, dial(twice, bent, 1).parts, dial(twice, bent, 0).parts]
+['any', 'barred', ((0, 1),), ((2, 1), (0, 1))]
+>>> dial(plain, three, 1)
+raises NoSort(1)
+'''),
+    ('polygons', '''
+>>> pair = Book([1], [(0, 0, 1), (0, 0, 1)])
+>>> ring = Web([0, 0, 0], [(0, 1, 0), (0, 2, 0), (1, 2, 1)])
+>>> polygon(pair, ring, 0, 1).lines
+((0, 1, 2), (2, 1, 3))
+>>> polygon(pair, ring, 0, 1).corners
+(((0, 1), (2, 1)), ((1, 2), (2, 1)), ((3, 2), (0, 1)))
+>>> [polygon(pair, Web.way(1), 0, 1).parts, polygon(pair, Web.way(1), 1, 0).parts, polygon(pair, Web([0]), 0, 1).parts]
+[(((1, 0, 2),), (((2, 1), (0, 1)),)), (((0, 1, 2),), (((0, 1), (2, 1)),)), ((), ())]
+>>> wide = Book([3], [(0, 0, 1), (0, 0, 1), (0, 0, 6)])
+>>> square = Web([0, 0, 0, 0], [(0, 1, 0), (0, 2, 1), (0, 3, 1), (1, 2, 1), (1, 3, 1), (2, 3, 0)])
+>>> [polygon(wide, square, 0, 1).parts, polygon(wide, Web([0, 0], [(0, 1, 0), (0, 1, 2)]), 0, 1).parts]
+[(((1, 2, 6),), (((0, 1), (3, 1)), ((6, 1), (0, 1)))), ((0, 1),)]
+>>> polygon(pair, ring, 1, 1)
+raises Twice(1)
+'''),
+    ('check_dials', '''
+>>> [shows_dial(plain, tail, 0, Dial((11, 1), (0, 1, 2, 3))), shows_dial(plain, tail, 0, Dial((11, 1), (0, 1, 2))), shows_dial(plain, three, 0, Dial((22, 2), (0, 1, 2))), shows_dial(plain, three, 0, Any())]
+[True, False, False, False]
+>>> [shows_polygon(pair, ring, 0, 1, Polygon([(0, 1, 2), (2, 1, 3)], polygon(pair, ring, 0, 1).corners)), shows_polygon(pair, ring, 0, 1, Barred((0,)))]
+[True, False]
+'''),
+)

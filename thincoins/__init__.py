@@ -1,0 +1,1 @@
+"""Thincoins: what thinly filled stores hold, for all sizes at once."""

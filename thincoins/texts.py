@@ -1,0 +1,70 @@
+"""Texts: items with single blanks between, written and read one by one."""
+
+from thincoins.checks import DIGITS
+from thincoins.errors import BadText
+
+MOST_DIGITS = 60
+
+
+def items_of(text):
+    """The items of a text; what is no string has none."""
+    if not isinstance(text, str):
+        raise BadText(0, 0)
+    return text.split(" ")
+
+
+def integer_of(item):
+    """The integer that the item writes, or None if it writes none."""
+    digits = item[1:] if item.startswith("-") else item
+    if not 1 <= len(digits) <= MOST_DIGITS:
+        return None
+    if not all([char in DIGITS for char in digits]):
+        return None
+    if digits[0] == "0" and item != "0":
+        return None
+    return int(item)
+
+
+def row_text(row):
+    """The integers of a row with single blanks between."""
+    return " ".join([str(one) for one in row])
+
+
+def rows_text(rows):
+    """The rows with strokes between; a dash stands for none."""
+    if len(rows) == 0:
+        return "-"
+    return " / ".join([row_text(row) for row in rows])
+
+
+class Reader:
+    """Takes the items of a text one by one; the first that cannot stand is told by its index."""
+
+    def __init__(self, words, at):
+        self.words = tuple(words)
+        self.at = at
+
+    def sees(self, word):
+        """Whether this item comes next."""
+        return self.at < len(self.words) and self.words[self.at] == word
+
+    def take_word(self, word):
+        """Takes this item, which must come next."""
+        if not self.sees(word):
+            raise BadText(0, self.at)
+        self.at += 1
+
+    def take_integer(self, least, most):
+        """Takes an item that writes an integer from least to most, and returns the integer."""
+        if self.at == len(self.words):
+            raise BadText(0, self.at)
+        number = integer_of(self.words[self.at])
+        if number is None or not least <= number <= most:
+            raise BadText(0, self.at)
+        self.at += 1
+        return number
+
+    def take_end(self):
+        """Nothing more must come."""
+        if self.at < len(self.words):
+            raise BadText(0, self.at)
