@@ -50,7 +50,7 @@ def plain_weight(book, web, lot):
 
 
 def greatest_webs():
-    """Webs of six points with fifteen ties, each with a book that it fits."""
+    """Webs of six points with fifteen ties, one of three kinds with thirteen, and books that they fit."""
     one = Book([12], [(0, 0, 4)])
     yield one, Web.all_tied(6)
     yield Book([1], [(0, 0, 24)]), Web.all_tied(6)
