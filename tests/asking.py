@@ -4,6 +4,7 @@ import time
 import unittest
 
 from thincoins.errors import ThinError
+from thincoins.papers import Paper
 
 # Values of many kinds, none of which is an integer, a list or a paper.
 STRANGE = (None, True, False, 1.0, "1", "", b"1", {}, {0: 1}, {0, 1}, object(), int, range(2), 1j)
@@ -17,6 +18,17 @@ def strangers(paper):
     stranger = type(made.__name__, (), {})()
     vars(stranger).update(vars(paper))
     return (below(*paper.parts), stranger)
+
+
+def plain(value):
+    """The value with its papers, all the way in, as their classes and parts, whose texts tell them."""
+    if isinstance(value, Paper):
+        return (type(value), plain(value.parts))
+    if isinstance(value, dict):
+        return {key: plain(one) for key, one in value.items()}
+    if isinstance(value, (list, tuple)):
+        return type(value)(plain(one) for one in value)
+    return value
 
 
 class Asking(unittest.TestCase):
@@ -40,5 +52,5 @@ class Asking(unittest.TestCase):
 
     def exactly(self, got, wanted):
         """Equal, and of the same kinds all the way in, so that True is no 1 and a list no tuple."""
-        self.assertEqual(repr(got), repr(wanted))
+        self.assertEqual(repr(plain(got)), repr(plain(wanted)))
         self.assertEqual(got, wanted)

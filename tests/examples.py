@@ -111,4 +111,65 @@ raises Twice(1)
 >>> [shows_polygon(pair, ring, 0, 1, Polygon([(0, 1, 2), (2, 1, 3)], polygon(pair, ring, 0, 1).corners)), shows_polygon(pair, ring, 0, 1, Barred((0,)))]
 [True, False]
 '''),
+    ('polynomials', '''
+>>> p, line = Polynomial([2, 0, -1, 0]), Polynomial([-1, 1])
+>>> [p.numbers, p.degree, p(3), p.shifted(1).numbers, (p * line).numbers, (p + line).numbers, (-p).numbers, (p - p).numbers, Polynomial([0]).degree]
+[(2, 0, -1), 2, -7, (1, -2, -1), (-2, 2, 1, -1), (1, 1, -1), (-2, 0, 1), (), -1]
+>>> [Polynomial.lone(2).numbers, Polynomial.falling(1, 3).numbers, Polynomial.falling(2, 2).numbers, Polynomial.falling(3, 0).numbers]
+[(0, 0, 1), (0, 2, -3, 1), (0, 0, -1, 0, 1), (1,)]
+'''),
+    ('quotients', '''
+>>> q = Quotient(Polynomial([0, 0, 3, 6]), 3)
+>>> [q.over.numbers, q.power, q.at(2), (q * q).power, (q + Quotient(line, 0)).over.numbers, (q - q).power, Quotient(Polynomial([0, 4]), 0).over.numbers]
+[(3, 6), 1, (15, 2), 2, (3, 5, 1), 0, (0, 4)]
+'''),
+    ('moments', '''
+>>> even, tie = Book([1], [(0, 0, 1)]), Web.way(1)
+>>> [sharings(tie), mean(even, tie).over.numbers, mean(even, tie).power, second(even, tie).over.numbers, second(even, tie).power]
+[(((0, 0, 0), (0, 0, 0, 0), 1), ((1, 0, 0), (0, 0, 0, 0), 4), ((2, 0, 0), (1, 0, 0, 0), 2)), (-1, 1), 0, (2, -3, 0, 1), 1]
+>>> [at_least(even, tie, 2), at_least(even, tie, 3), at_most(even, tie, 2), at_most(even, tie, 3), at_least(even, Web.way(2), 2), at_most(even, Web.way(2), 2)]
+[(1, 2), (3, 5), (1, 2), (1, 1), (0, 1), (0, 1)]
+>>> two, pair = Book([1, 2], [(0, 1, 2)]), Web([0, 1], [(0, 1, 0)])
+>>> [mean(two, pair).over.numbers, second(two, pair).over.numbers, second(two, pair).power, at_least(two, pair, 2)]
+[(0, 1), (-1, 0, 1, 1), 1, (8, 11)]
+'''),
+    ('fillings', '''
+>>> [coins(even, 4), coins(two, 2), spread(even, tie, 3), chance(even, tie, 3), chance(two, pair, 2)]
+[6, 8, ((0, (8, 27)), (2, (4, 9)), (4, (2, 9)), (6, (1, 27))), (19, 27), (58975, 65536)]
+>>> [spread(even, Web.all_tied(3), 3), spread(Book([1, 2]), Web([0, 1]), 2), coins(Book([12]), 10)]
+[((0, (26, 27)), (6, (1, 27))), ((8, (1, 1)),), 0]
+>>> chance(even, tie, 6)
+raises TooMany("coins", 10)
+'''),
+    ('surely', '''
+>>> [above_from(Polynomial([-10, 0, 1])), above_from(Polynomial([10, -6, 1])), above_from(Polynomial([3])), above_from(Polynomial([5, -1])), above_from(Polynomial([]))]
+[4, 3, 2, None, None]
+>>> [sure_from(even, tie, (1, 2)).m, sure_from(even, tie, (9, 10)).m, rare_from(Book([1], [(0, 0, 3)]), tie, (1, 10)).parts]
+[3, 19, (4, (0, 1))]
+>>> sure_from(even, Web.all_tied(3), (1, 2))
+raises Impossible(OnBreak((0, 1, 2)))
+'''),
+    ('check_moments', '''
+>>> thin = Book([1], [(0, 0, 3)])
+>>> [shows_from(even, tie, (1, 2), SureFrom(5)), shows_from(even, tie, (1, 2), SureFrom(2)), shows_from(thin, tie, (1, 10), RareFrom(4, [0, 1])), shows_from(thin, tie, (1, 10), RareFrom(4, (0,)))]
+[True, False, True, False]
+'''),
+    ('named', '''
+>>> book, three = Book([11], [(0, 0, 7)]), Web.all_tied(3)
+>>> [beside(book, three, [0], [1]), beside(book, three, [0], [2, 1]), beside(book, three, [0, 1], [2]), beside(book, three, [], [0, 1, 2])]
+[4, 1, -3, 12]
+>>> [everywhere(book, three, [0]).handing, everywhere(book, three, [1, 0]).part, everywhere(book, three, [0, 1, 2]).handing]
+[((0, 14), (0, 14), (7, 7)), (2,), ((0, 0), (0, 0), (0, 0))]
+>>> [everywhere(book, Web.all_tied(4), [0]).part, everywhere(Book([2], [(0, 0, 1)]), three, [0, 1]).part, bare(three, [2, 0]).ties]
+[(1, 2, 3), (2,), ((0, 1, 0), (1, 2, 0))]
+>>> beside(book, three, [0], [1, 0])
+raises Misfit('part')
+'''),
+    ('hulls', '''
+>>> tail = Web([0, 0, 0, 0], [(0, 2, 0), (1, 2, 0), (2, 3, 0)])
+>>> [hull(book, tail, [0, 1]).parts, hull(book, three, [0]).parts, hull(Book([2], [(0, 0, 1)]), three, [0, 1]).parts]
+[((2,), -3, (2,)), ((), 0, ()), ((), 0, (2,))]
+>>> hull(book, three, [1, 3, 1])
+raises NoPoint(3)
+'''),
 )

@@ -3,6 +3,7 @@
 import importlib
 import unittest
 
+from tests.asking import plain
 from tests.examples import EXAMPLES
 
 FILES = ("errors",) + tuple(name for name, _ in EXAMPLES)
@@ -52,7 +53,7 @@ class TestExamples(unittest.TestCase):
                 with self.subTest(file=name, source=source):
                     got, wanted = run_step(names, source, answer)
                     self.assertEqual(got, wanted)
-                    self.assertEqual(repr(got), repr(wanted))
+                    self.assertEqual(repr(plain(got)), repr(plain(wanted)))
                     many += 1
         self.assertEqual(many, sum(text.count('>>> ') for _, text in EXAMPLES))
 

@@ -5,15 +5,22 @@ import unittest
 from tests.asking import Asking
 from thincoins.dials import Any, Barred, Dial
 from thincoins.handings import Comes, OnBreak, Rare
+from thincoins.hulls import Hull
 from thincoins.layings import Alike, Unlike
+from thincoins.named import Everywhere, NamesBreak, Seldom
 from thincoins.papers import Denial, Paper, fixed
 from thincoins.polygons import Polygon
+from thincoins.surely import RareFrom, SureFrom
 
 CLASSES = (
     (Alike, ("laying",)), (Comes, ("handing",)), (Dial, ("ratio", "part")), (Any, ()),
-    (Polygon, ("lines", "corners")),
+    (Polygon, ("lines", "corners")), (SureFrom, ("m",)), (RareFrom, ("m", "part")), (Everywhere, ("handing",)),
+    (Hull, ("part", "weight", "greatest")),
 )
-DENIALS = ((Unlike, ("what",)), (Rare, ("part",)), (OnBreak, ("part",)), (Barred, ("part",)))
+DENIALS = (
+    (Unlike, ("what",)), (Rare, ("part",)), (OnBreak, ("part",)), (Barred, ("part",)), (Seldom, ("part",)),
+    (NamesBreak, ("part",)),
+)
 VALUES = (None, True, 3, "x", [1, [2, (3, [4])]], (), [], {"a": [1]}, object(), Paper("in"))
 
 
@@ -95,6 +102,8 @@ class TestPapers(Asking):
     def test_parts_stand_in_the_order_of_the_parameters(self):
         self.exactly(Dial(part=(1,), ratio=(2, 3)).parts, ((2, 3), (1,)))
         self.exactly(Polygon(corners=[], lines=[(1, 0, 2)]).parts, (((1, 0, 2),), ()))
+        self.exactly(RareFrom(part=[1], m=4).parts, (4, (1,)))
+        self.exactly(Hull(greatest=[2], weight=-3, part=[]).parts, ((), -3, (2,)))
 
     def test_all_are_below_paper_and_only_denials_below_denial(self):
         for made, _ in CLASSES:

@@ -1,5 +1,6 @@
 """Whether a web comes, is rare, or is on a break, with what shows it."""
 
+from thincoins.besides import point_rooms, tie_amounts
 from thincoins.handed import handing_of
 from thincoins.papers import Denial, Paper
 from thincoins.required import require_fitting
@@ -31,16 +32,6 @@ class OnBreak(Denial):
         self.part = self.parts[0]
 
 
-def tie_amounts(book, web):
-    """What each tie must hand out in a handing: its thinness, as many times as there are points."""
-    return [web.points * book.sorts[tie[2]][2] for tie in web.ties]
-
-
-def point_rooms(book, web):
-    """What each point may get at most in a handing."""
-    return [web.points * book.sizes[kind] - 1 for kind in web.kinds]
-
-
 def comes(book, web):
     """The Comes with a handing, the Rare of the least part of least weight, or the OnBreak of the
     first level part."""
@@ -51,4 +42,4 @@ def comes(book, web):
     level = [row[0] for row in part_weights(book, web) if row[1] == 0]
     if len(level) > 0:
         return OnBreak(level[0])
-    return Comes(handing_of(web.ties, tie_amounts(book, web), point_rooms(book, web)))
+    return Comes(handing_of(web.ties, tie_amounts(book, web, ()), point_rooms(book, web, ())))

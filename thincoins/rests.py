@@ -38,3 +38,12 @@ def lot_weight(book, web, lot):
 def part_weights(book, web):
     """The pair (part, weight) of each part, in order."""
     return [(part, lot_weight(book, web, part)) for part in lots_of(web.points)[1:]]
+
+
+def least_lots(rows):
+    """The triple (weight, least, greatest) of (lot, weight) rows, in order, of all lots of some points:
+    the least weight, the lot within all others that have it, and the one that has them within."""
+    least = min([row[1] for row in rows])
+    # With two lots of least weight both joined and what they share have it, too.
+    lots = [row[0] for row in rows if row[1] == least]
+    return (least, lots[0], lots[-1])

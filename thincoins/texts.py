@@ -40,31 +40,31 @@ def rows_text(rows):
 class Reader:
     """Takes the items of a text one by one; the first that cannot stand is told by its index."""
 
-    def __init__(self, words, at):
+    def __init__(self, words, taken):
         self.words = tuple(words)
-        self.at = at
+        self.taken = taken
 
     def sees(self, word):
         """Whether this item comes next."""
-        return self.at < len(self.words) and self.words[self.at] == word
+        return self.taken < len(self.words) and self.words[self.taken] == word
 
     def take_word(self, word):
         """Takes this item, which must come next."""
         if not self.sees(word):
-            raise BadText(0, self.at)
-        self.at += 1
+            raise BadText(0, self.taken)
+        self.taken += 1
 
     def take_integer(self, least, most):
         """Takes an item that writes an integer from least to most, and returns the integer."""
-        if self.at == len(self.words):
-            raise BadText(0, self.at)
-        number = integer_of(self.words[self.at])
+        if self.taken == len(self.words):
+            raise BadText(0, self.taken)
+        number = integer_of(self.words[self.taken])
         if number is None or not least <= number <= most:
-            raise BadText(0, self.at)
-        self.at += 1
+            raise BadText(0, self.taken)
+        self.taken += 1
         return number
 
     def take_end(self):
         """Nothing more must come."""
-        if self.at < len(self.words):
-            raise BadText(0, self.at)
+        if self.taken < len(self.words):
+            raise BadText(0, self.taken)

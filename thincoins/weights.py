@@ -2,7 +2,7 @@
 
 from thincoins.numbered import require_points
 from thincoins.required import require_book, require_fit, require_fitting, require_web
-from thincoins.rests import lot_weight, part_weights
+from thincoins.rests import least_lots, lot_weight, part_weights
 
 
 def weight(book, web, part=None):
@@ -18,9 +18,4 @@ def weight(book, web, part=None):
 def least_parts(book, web):
     """The least weight of all lots of points, and the least and the greatest lot that has it."""
     require_fitting(book, web)
-    rows = [((), 0)] + part_weights(book, web)
-    least = min([row[1] for row in rows])
-    lots = [row[0] for row in rows if row[1] == least]
-    within = [point for point in range(web.points) if all([point in lot for lot in lots])]
-    around = [point for point in range(web.points) if any([point in lot for lot in lots])]
-    return (least, tuple(within), tuple(around))
+    return least_lots([((), 0)] + part_weights(book, web))
