@@ -14,10 +14,10 @@ SHORT = 5
 def strangers(paper):
     """Objects that have all that the paper has, but are made by calling other classes."""
     made = type(paper)
-    below = type("Below", (made,), {})
+    beneath = type("Beneath", (made,), {})
     stranger = type(made.__name__, (), {})()
     vars(stranger).update(vars(paper))
-    return (below(*paper.parts), stranger)
+    return (beneath(*paper.parts), stranger)
 
 
 def plain(value):

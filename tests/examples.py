@@ -172,4 +172,50 @@ raises Misfit('part')
 >>> hull(book, three, [1, 3, 1])
 raises NoPoint(3)
 '''),
+    ('chains', '''
+>>> two = Web([0, 0, 0, 0], [(0, 2, 0), (1, 2, 0), (0, 3, 0), (2, 3, 0)])
+>>> [chain(book, two, [0, 1]), hull(book, two, [0, 1]).parts, chain(book, Web.all_tied(4), [3]), chain(book, three, [0])]
+[((2,), (3,)), ((2, 3), -6, (2, 3)), ((0, 1, 2),), ()]
+'''),
+    ('check_named', '''
+>>> [shows_everywhere(book, three, [0], Everywhere([(0, 14), (0, 14), (7, 7)])), shows_everywhere(book, three, [0], Everywhere([(0, 14), (0, 14), (8, 6)])), shows_everywhere(book, two, [0, 1], Seldom([2]))]
+[True, False, True]
+>>> [shows_everywhere(book, three, [0, 1], NamesBreak((2,))), shows_hull(book, two, [0, 1], Hull((2,), -3, (2, 3)))]
+[False, False]
+'''),
+    ('placings', '''
+>>> four, two = Book([2], [(0, 0, 1)]), Book([1], [(0, 0, 1)])
+>>> tied, three = Web([0, 0], [(0, 1, 0)]), Web([0, 0, 0], [(0, 1, 0), (0, 2, 0), (1, 2, 0)])
+>>> [many_placings(four, three, [0], 2), sums(four, tied, [0], 5).parts, sums(four, three, [0], 2).parts, sums(four, three, [], 2).parts]
+[4, ((24, 5), (24, 5)), ((3, 4), (9, 4)), ((3, 1), (63, 2))]
+>>> [lack(two, tied, [0], 2), lack(four, three, [0], 2), lack(four, three, [], 2), lack(two, three, [0], 2), lack(two, tied, [1, 0], 2), lack(two, three, [0, 1, 2], 2)]
+[(1, 2), (57, 64), (41, 64), (1, 1), (0, 1), (0, 1)]
+'''),
+    ('tails', '''
+>>> [tail((1, 2), 1), tail((24, 5), 3), tail((0, 1), 20), tail((7, 1), 0)]
+[(2, 3), (125, 4469), (1, 1), (1, 1)]
+>>> [lacks_at_most(four, tied, [0], 5, 3), lacks_at_most(four, three, [0], 2, 9), lacks_at_most(two, three, [0], 2, 5), lacks_at_most(two, tied, [0, 1], 2, 5)]
+[(3125, 4469), (1, 1), (1, 1), (0, 1)]
+>>> [terms_for(four, tied, [0], 5, (3, 4)).parts, terms_for(four, three, [0], 2, (1, 2)).parts]
+[(3, (3125, 4469)), ((1, 1),)]
+'''),
+    ('check_tails', '''
+>>> [shows_sums(four, three, [0], 2, Sums([3, 4], (9, 4))), shows_sums(four, three, [0], 2, Sums((6, 8), (9, 4))), shows_terms(four, tied, [0], 5, (3, 4), NotBelow((1, 1)))]
+[True, False, False]
+'''),
+    ('friends', '''
+>>> plain, wide = Book([11], [(0, 0, 7)]), Book([3, 2, 5], [(0, 1, 4), (0, 2, 3)])
+>>> [friends(plain, 0, [0]) == Power(4), friends(plain, 0, [0, 0]).parts, friends(plain, 0, (0, 0, 0)).parts]
+[True, (7, (0, 1)), (3, (0, 1, 2))]
+>>> [friends(wide, 0, [0, 1]) == Most(1, (0, 1)), friends(wide, 0, [0]) == MostBreak(1, [0]), friends(wide, 0, [1]).word, friends(wide, 1, [0]).parts, friends(Book([1], [(0, 0, 3)]), 0, [0]).parts]
+[True, True, 'level', (1, (0,)), (0, (0,))]
+>>> [str(friends_web(wide, 0, [0, 1], 2)), str(friends_web(wide, 0, [0, 1], 0)), str(friends_web(plain, 0, [0, 0], 1))]
+['1 2 0 0 : 0 2 0 / 0 3 0 / 1 2 1 / 1 3 1', '1 2 : -', '0 0 0 : 0 2 0 / 1 2 0']
+>>> friends(wide, 1, [0, 1])
+raises Misfit("sorts")
+'''),
+    ('mutual', '''
+>>> [mutual(plain).parts, mutual(Book([7], [(0, 0, 7)])) == MostBreak(2, None), mutual(Book([1], [(0, 0, 3)])).parts]
+[(4, None), True, (1, None)]
+'''),
 )

@@ -9,13 +9,10 @@ from tests.examples import EXAMPLES
 FILES = ("errors",) + tuple(name for name, _ in EXAMPLES)
 
 
-def all_names():
-    """The names of all files, for examples leave imports out."""
-    names = {}
-    for name in FILES:
-        module = importlib.import_module("thincoins." + name)
-        names.update({key: value for key, value in vars(module).items() if not key.startswith("__")})
-    return names
+def names_of(name):
+    """The names of a file, for examples leave imports out."""
+    module = importlib.import_module("thincoins." + name)
+    return {key: value for key, value in vars(module).items() if not key.startswith("__")}
 
 
 def steps_of(text):
@@ -46,9 +43,13 @@ def run_step(names, source, answer):
 
 class TestExamples(unittest.TestCase):
     def test_all(self):
-        names = all_names()
+        names = {}
+        for name in FILES:
+            names.update(names_of(name))
         many = 0
         for name, text in EXAMPLES:
+            # An earlier example may have made something of a name that this file has.
+            names.update(names_of(name))
             for source, answer in steps_of(text):
                 with self.subTest(file=name, source=source):
                     got, wanted = run_step(names, source, answer)

@@ -5,21 +5,25 @@ import unittest
 from tests.asking import Asking
 from thincoins.dials import Any, Barred, Dial
 from thincoins.handings import Comes, OnBreak, Rare
+from thincoins.friends import Level, Most, MostBreak, Power
 from thincoins.hulls import Hull
 from thincoins.layings import Alike, Unlike
 from thincoins.named import Everywhere, NamesBreak, Seldom
 from thincoins.papers import Denial, Paper, fixed
+from thincoins.placings import Sums
 from thincoins.polygons import Polygon
 from thincoins.surely import RareFrom, SureFrom
+from thincoins.tails import Below, NotBelow
 
 CLASSES = (
     (Alike, ("laying",)), (Comes, ("handing",)), (Dial, ("ratio", "part")), (Any, ()),
     (Polygon, ("lines", "corners")), (SureFrom, ("m",)), (RareFrom, ("m", "part")), (Everywhere, ("handing",)),
-    (Hull, ("part", "weight", "greatest")),
+    (Hull, ("part", "weight", "greatest")), (Sums, ("mean", "pairs")), (Below, ("terms", "bound")), (Power, ("weight",)),
+    (Most, ("number", "lot")),
 )
 DENIALS = (
     (Unlike, ("what",)), (Rare, ("part",)), (OnBreak, ("part",)), (Barred, ("part",)), (Seldom, ("part",)),
-    (NamesBreak, ("part",)),
+    (NamesBreak, ("part",)), (NotBelow, ("bound",)), (MostBreak, ("number", "lot")), (Level, ()),
 )
 VALUES = (None, True, 3, "x", [1, [2, (3, [4])]], (), [], {"a": [1]}, object(), Paper("in"))
 
@@ -103,6 +107,9 @@ class TestPapers(Asking):
         self.exactly(Dial(part=(1,), ratio=(2, 3)).parts, ((2, 3), (1,)))
         self.exactly(Polygon(corners=[], lines=[(1, 0, 2)]).parts, (((1, 0, 2),), ()))
         self.exactly(RareFrom(part=[1], m=4).parts, (4, (1,)))
+        self.exactly(Sums(pairs=[0, 1], mean=[1, 2]).parts, ((1, 2), (0, 1)))
+        self.exactly(Below(bound=[0, 1], terms=3).parts, (3, (0, 1)))
+        self.exactly(Most(lot=[1], number=3).parts, MostBreak(lot=(1,), number=3).parts)
         self.exactly(Hull(greatest=[2], weight=-3, part=[]).parts, ((), -3, (2,)))
 
     def test_all_are_below_paper_and_only_denials_below_denial(self):

@@ -16,7 +16,7 @@ from thincoins.moments import at_least, mean, second
 from thincoins.papers import Paper
 from thincoins.polynomials import Polynomial
 from thincoins.quotients import Quotient
-from thincoins.surely import RareFrom, SureFrom, above_from, rare_from, sure_from
+from thincoins.surely import RareFrom, SureFrom, above_from, rare_from, stays_above, sure_from
 from thincoins.webs import Web
 
 EVEN, THIN = Book([1], [(0, 0, 1)]), Book([1], [(0, 0, 3)])
@@ -77,6 +77,7 @@ class TestAboveFrom(Asking):
         for row, wanted in (
             ([-10, 0, 1], 4), ([10, -6, 1], 3), ([3], 2), ([5, -1], None), ([], None), ([0], None), ([-3], None), ([0, 1], 2),
             ([-2, 1], 3), ([-1, 1], 2), ([0, 0, -2, 1], 3), ([4, -4, 1], 3), ([-9, 0, 1], 4), ([1, 0, -1], None), ([0, -9, 3], 4),
+            ([5, -4, 1], 2), ([0, 5, -4, 1], 2), ([9, 0, 0, 1], 2),
         ):
             self.exactly(above_from(Polynomial(row)), wanted)
         self.exactly(above_from(polynomial=Polynomial([1])), 2)
@@ -127,6 +128,18 @@ class TestAboveFrom(Asking):
         for root in range(100):
             many = many * Polynomial([10 ** 40 * (root + 1), -2 * 10 ** 20 - root, 1])
         self.quick(above_from, many)
+
+    def test_roots_as_far_out_as_can_be(self):
+        # Of m^n - r m^(n - 1) - r r m^(n - 2) .. one root is just below 2 r.
+        for r in (3, 4, 7, 8, 15, 255, 256, 2 ** 40 - 1, 2 ** 40):
+            for degree in (1, 2, 3, 8, 20):
+                row = [-(r ** (degree - at)) for at in range(degree)] + [1]
+                m = self.quick(above_from, Polynomial(row))
+                self.assertTrue(is_above(row, m) and not is_above(row, m - 1))
+
+    def test_stays_above(self):
+        for row, m, wanted in (([], 2, False), ([1], 2, True), ([-1], 2, False), ([-2, 1], 2, False), ([-2, 1], 3, True)):
+            self.assertIs(stays_above(Polynomial(row), m), wanted)
 
     def test_refused(self):
         for value in STRANGE + ([1], (1, 2), 3, Quotient(Polynomial([1]), 0)):

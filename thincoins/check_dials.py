@@ -1,10 +1,11 @@
 """Whether a paper about turned dials is right."""
 
-from thincoins.checks import is_integer, is_ratio
+from thincoins.checks import is_ratio
 from thincoins.dials import Any, Barred, Dial, dial
 from thincoins.lots import is_part
 from thincoins.polygons import Polygon, polygon
 from thincoins.rests import rest_of
+from thincoins.same import are_same_numbers
 
 
 def shows_dial(book, web, sort, value):
@@ -40,12 +41,3 @@ def shows_polygon(book, web, sort, other, value):
 def bars(book, web, part, turned):
     """Whether any value tells a barring part, these sorts being turned."""
     return is_part(part, web.points) and rest_of(book, web, part, turned)[0] <= 0
-
-
-def are_same_numbers(value, right):
-    """Whether any value has just these tuples of integers, with integers for integers."""
-    if is_integer(right):
-        return is_integer(value) and value == right
-    if not isinstance(value, tuple) or len(value) != len(right):
-        return False
-    return all([are_same_numbers(one, two) for one, two in zip(value, right)])

@@ -28,3 +28,9 @@ def require_fitting(book, web):
     require_book(book, "book")
     require_web(web, "web")
     require_fit(book, web)
+
+
+def require_plain(book):
+    """A book of one kind, and one sort between things of this kind."""
+    if not book.is_plain:
+        raise Misfit("plain")
