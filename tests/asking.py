@@ -21,9 +21,11 @@ def strangers(paper):
 
 
 def plain(value):
-    """The value with its papers, all the way in, as their classes and parts, whose texts tell them."""
+    """The value with its papers and errors, all the way in, as their classes and what they keep."""
     if isinstance(value, Paper):
         return (type(value), plain(value.parts))
+    if isinstance(value, ThinError):
+        return (type(value), plain(vars(value)))
     if isinstance(value, dict):
         return {key: plain(one) for key, one in value.items()}
     if isinstance(value, (list, tuple)):

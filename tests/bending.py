@@ -18,12 +18,12 @@ def wrong_item(text, is_right, ends):
     return len(items)
 
 
-def bent(text, chance):
+def bent(text, chance, odd_items=ODD):
     """Texts that differ from the text by one item, put in, left out, exchanged or told twice."""
     items = text.split(" ")
     found = [text + " ", " " + text, text + " /", text + " / ", text + " :", text.replace(" ", "  ", 1)]
     for at in range(len(items) + 1):
-        odd = chance.choice(ODD)
+        odd = chance.choice(odd_items)
         found.append(" ".join(items[:at]))
         found.append(" ".join(items[:at] + [odd] + items[at:]))
         if at < len(items):

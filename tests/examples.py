@@ -218,4 +218,110 @@ raises Misfit("sorts")
 >>> [mutual(plain).parts, mutual(Book([7], [(0, 0, 7)])) == MostBreak(2, None), mutual(Book([1], [(0, 0, 3)])).parts]
 [(4, None), True, (1, None)]
 '''),
+    ('farthest', '''
+>>> [farthest(plain).number, farthest(Book([2], [(0, 0, 1)])).number, farthest(Book([3], [(0, 0, 1)])).number, bool(farthest(Book([7], [(0, 0, 7)])))]
+[3, 3, 2, False]
+'''),
+    ('check_greatest', '''
+>>> [shows_friends(plain, 0, [0, 0], Most(7, [0, 1])), shows_friends(plain, 0, [0, 0], Most(7, (0,))), shows_friends(plain, 0, [0, 0], Most(6, (0, 1))), shows_friends(wide, 0, [0, 1], MostBreak(1, (0,))), shows_friends(plain, 0, [0], Level())]
+[True, False, False, False, False]
+>>> [shows_mutual(plain, Most(4, None)), shows_mutual(plain, Most(4, ())), shows_mutual(plain, MostBreak(4, None)), shows_farthest(plain, Steps(3)), shows_farthest(plain, Steps(4)), shows_farthest(plain, Apart())]
+[True, False, False, True, False, False]
+'''),
+    ('questions', '''
+>>> near = Question.read("some y and tied x y not same x y")
+>>> [near.free, near.looks, near.is_closed, str(near.negated()), str(near.renamed([("x", "y"), ["y", "x"]]))]
+[('x',), 1, False, 'not some y and tied x y not same x y', 'some x and tied y x not same y x']
+>>> [Question.read("some x all y or same x y tied x y").looks, str(Question.read("same x x").both(Question.read("tied x z"))), Question.read("some x some x tied x x").looks]
+[2, 'and same x x tied x z', 2]
+>>> Question.read("tied x")
+raises BadText(0, 2)
+>>> Question.read("some x tied x y z")
+raises BadText(0, 5)
+'''),
+    ('towns', '''
+>>> row = Town(4, [(1, 0), [1, 2]])
+>>> two = "some x some y some z and tied x y and tied y z not same x z"
+>>> [row.ties, holds(row, Question.read(two)), holds(row, Question.read("some x all y not tied x y")), holds(row, Question.read("all x some y tied x y")), Town(1).beside(Town(2, [(0, 1)])).ties]
+[((0, 1), (1, 2)), True, True, False, ((1, 2),)]
+'''),
+    ('trees', '''
+>>> [tree.ties for tree in trees(4)]
+[(), ((0, 1),), ((0, 1), (0, 2)), ((0, 1), (0, 2), (0, 3)), ((0, 1), (0, 2), (1, 3))]
+>>> [thin_town(2, 2).things, thin_town(2, 2).ties, len([tree for tree in trees(6)])]
+[6, ((2, 3), (4, 5)), 14]
+'''),
+    ('thinside', '''
+>>> thin, thinner = Book([5], [(0, 0, 7)]), Book([4], [(0, 0, 7)])
+>>> [greatest_tree(thin).number, greatest_tree(thinner) == Trees(2), greatest_tree(Book([7], [(0, 0, 8)])) == TreesBreak(8)]
+[3, True, True]
+>>> [thin_verdict(thin, Question.read(two)), thin_verdict(thinner, Question.read(two)), thin_verdict(thin, Question.read("all x some y tied x y"))]
+[True, False, False]
+>>> thin_verdict(Book([2], [(0, 0, 3)]), Question.read(two))
+raises Impossible(TreesBreak(3))
+'''),
+    ('views', '''
+>>> row = Town(3, [(0, 1), (1, 2)])
+>>> [views_of_town(row), views_of_town(Town(2)), views_of_town(Town(1))]
+[(((0, (3,)), (1, (1,))), ((1, (2,)),)), (((0, ()),),), ((),)]
+>>> [answer(views_of_town(row), Question.read("some x all y or same x y tied x y")), answer([[]], Question.read("some x some y not same x y")), are_views([[]]), are_views([]), are_views([[(0, [0, 1]), (0, [0])]])]
+[True, False, True, False, False]
+'''),
+    ('threelooks', '''
+>>> grid = Town(9, [(0, 1), (0, 2), (1, 2), (3, 4), (3, 5), (4, 5), (6, 7), (6, 8), (7, 8), (0, 3), (0, 6), (3, 6), (1, 4), (1, 7), (4, 7), (2, 5), (2, 8), (5, 8)])
+>>> threes, ring = Town(6, [(0, 1), (0, 2), (1, 2), (3, 4), (3, 5), (4, 5), (0, 3), (1, 4), (2, 5)]), Town(5, [(0, 1), (1, 2), (2, 3), (3, 4), (0, 4)])
+>>> [cell_of_town(grid), cell_of_town(threes.beside(threes)), cell_of_town(threes.beside(ring)), cell_of_town(threes), cell_of_town(Town(3)), cell_of_town(row)]
+[0, 1, 2, None, 9, None]
+>>> [cell_of(Book([11], [(0, 0, 5)])), cell_of(Book([2], [(0, 0, 1)])), cell_of(Book([3], [(0, 0, 2)])), cell_of(Book([7], [(0, 0, 8)])), cell_of(Book([11], [(0, 0, 13)])), cell_of(Book([5], [(0, 0, 7)]))]
+[0, 1, 2, 3, 4, 7]
+>>> [len(views_of_cell(cell)) for cell in range(10)]
+[1, 1, 2, 12, 11, 9, 6, 4, 2, 1]
+>>> [views_of_cell(8), views_of_cell(9)]
+[(((0, (0,)), (0, (0, 1))), ((0, (0, 1, 2)), (0, (0, 2)), (1, (0,)))), (((0, (0,)),),)]
+>>> common = Question.read("all x all y or same x y some z and tied x z tied y z")
+>>> [verdict(Book([11], [(0, 0, 5)]), common), verdict(Book([11], [(0, 0, 7)]), common)]
+[True, False]
+>>> verdict(Book([4], [(0, 0, 5)]), common)
+raises Impossible(DialBreak((5, 4)))
+'''),
+    ('questiondials', '''
+>>> three = Question.read("some x some y some z and tied x y and tied y z tied x z")
+>>> far = Question.read("some x all y and some z and tied x z not same y z or same x y or all z not tied y z some z and tied y z not or tied x z same x z")
+>>> [question_dial(three)[2:4], question_dial(three)[9]]
+[((((2, 3), (1, 1)), True), (((1, 1), (7, 6)), False)), (((2, 1), None), False)]
+>>> [changes(three), changes(common), changes(far), changes(Question.read("some x some y tied x y")), parting_cells(three, common), parting_cells(far, far)]
+[((1, 1),), ((1, 2),), ((7, 6),), ((2, 1),), (1, 2), ()]
+'''),
+    ('desk_lines', '''
+>>> [read_line("glue b a a 0 10"), read_line("mutual"), str(read_line("web a 0 0 : 0 1 3")[2]), DEEDS[4:7]]
+[('glue', 'b', 'a', 'a', 0, 10), ('mutual',), '0 0 : 0 1 3', ('tied', 'ring', 'way')]
+>>> read_line("web a 0 0 : 1 0 3")
+raises BadText(0, 5)
+'''),
+    ('desk_asks', '''
+>>> shelf = Shelf(Book([11], [(0, 0, 7)]), [("four", Web.all_tied(4)), ("five", Web.all_tied(5))])
+>>> [answer_of(shelf, line) for line in ("names", "told", "weight four", "comes five", "struck five", "heavy five", "round four 0", "hull four 0", "laid four five")]
+['four five', '11 : 0 0 7', '2', 'rare', '0 1 2', '0 1 2 3 4', 'seldom', '1 2 3', '120']
+>>> [answer_of(shelf, line) for line in ("dial four 0", "heavy four", "alike four five", "asked some x some y tied x y")]
+['dial 22 3', '-', 'unlike', 'yes']
+>>> later, answer = changed(shelf, "thin 0 8")
+>>> [answer, answer_of(later, "comes four"), answer_of(later, "told"), answer_of(shelf, "told")]
+['7', 'rare', '11 : 0 0 8', '11 : 0 0 7']
+>>> answer_of(Shelf(), "comes four")
+raises Nothing()
+'''),
+    ('desk', '''
+>>> desk = Desk()
+>>> desk.told("book 2 : 0 0 1", "way w 2", "glue x w w 0 2", "show x", "tie x 1 4 0", "strike x 0 1")
+('1', '2', '5', '0 0 0 0 0 : 0 1 0 / 0 4 0 / 1 2 0 / 3 4 0', '5', '3')
+>>> desk.told("size 0 3", "part y x 7")
+raises BadLine(1, NoPoint(7))
+>>> [desk.undo(), desk("told"), desk.redo(), len(desk), "x" in desk, desk.tried("drop x", "names"), desk("show x")]
+['strike x 0 1', '2 : 0 0 1', 'strike x 0 1', 2, True, ('1', 'w'), '0 0 0 0 0 : 1 2 0 / 1 4 0 / 3 4 0']
+'''),
+    ('stories', '''
+>>> one = replay(["way a 1", "tie a 0 1 1", "drop a"])
+>>> [one == Desk(), len(one.story), one.undo(), parting(one, desk.twin()), parting(one, replay(one.story)), one("show a")]
+[True, 3, 'drop a', 0, 2, '0 0 : 0 1 0 / 0 1 1']
+'''),
 )

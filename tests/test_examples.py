@@ -37,8 +37,8 @@ def run_step(names, source, answer):
     try:
         got = eval(source, names)
     except ValueError as error:
-        got = (type(error), vars(error))
-    return got, (type(wanted), vars(wanted))
+        got = plain(error)
+    return got, plain(wanted)
 
 
 class TestExamples(unittest.TestCase):

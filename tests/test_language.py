@@ -5,6 +5,8 @@ import builtins
 import pathlib
 import unittest
 
+from thincoins import errors
+
 FOLDER = pathlib.Path(__file__).resolve().parent.parent / "thincoins"
 FILES = sorted(FOLDER.glob("*.py"))
 BUILTINS = set(
@@ -47,7 +49,17 @@ def bound_names(tree):
             found.add(node.id)
         if isinstance(node, ast.ImportFrom):
             found.update(alias.name for alias in node.names)
+        if isinstance(node, ast.ExceptHandler) and node.name:
+            found.add(node.name)
     return found
+
+
+def is_table(node, functions):
+    """Whether it is a literal dict of strings and functions that are defined above."""
+    if not isinstance(node, ast.Dict):
+        return False
+    named = all(isinstance(value, ast.Name) and value.id in functions for value in node.values)
+    return named and all(isinstance(key, ast.Constant) and isinstance(key.value, str) for key in node.keys)
 
 
 class TestLanguage(unittest.TestCase):
@@ -78,7 +90,8 @@ class TestLanguage(unittest.TestCase):
             for node in tree.body:
                 self.assertIsInstance(node, (ast.Expr, ast.ImportFrom, ast.FunctionDef, ast.ClassDef, ast.Assign))
                 if isinstance(node, ast.Assign):
-                    ast.literal_eval(node.value)
+                    if not is_table(node.value, names):
+                        ast.literal_eval(node.value)
                     names.append(node.targets[0].id)
                 if isinstance(node, (ast.FunctionDef, ast.ClassDef)):
                     names.append(node.name)
@@ -133,13 +146,37 @@ class TestLanguage(unittest.TestCase):
                 self.assertFalse(told & fixed, f"{path.name} {function.name}")
 
     def test_plain_values_and_signs(self):
-        for node in self.nodes(ast.Constant, ast.BinOp, ast.Set, ast.SetComp, ast.GeneratorExp, ast.Try, ast.Global):
-            self.assertNotIsInstance(node, (ast.Set, ast.SetComp, ast.GeneratorExp, ast.Try, ast.Global))
+        for node in self.nodes(ast.Constant, ast.BinOp, ast.Set, ast.SetComp, ast.GeneratorExp, ast.Global):
+            self.assertNotIsInstance(node, (ast.Set, ast.SetComp, ast.GeneratorExp, ast.Global))
             if isinstance(node, ast.Constant):
                 self.assertNotIsInstance(node.value, (float, complex, bytes))
                 self.assertNotIn("%", str(node.value))
             else:
                 self.assertNotIsInstance(node.op, (ast.Div, ast.MatMult, ast.Pow))
+
+    def test_only_own_errors_are_caught(self):
+        own = {name for name, one in vars(errors).items() if isinstance(one, type)}
+        for node in self.nodes(ast.Try):
+            self.assertFalse(node.finalbody)
+            for handler in node.handlers:
+                self.assertIsInstance(handler.type, ast.Name)
+                self.assertIn(handler.type.id, own)
+
+    def test_what_yields_is_iterated_on_the_spot(self):
+        yielding = set()
+        for _, tree in trees():
+            for node in ast.walk(tree):
+                if isinstance(node, ast.FunctionDef) and any(isinstance(one, ast.Yield) for one in ast.walk(node)):
+                    yielding.add(node.name)
+        self.assertEqual(yielding, {"trees"})
+        for path, tree in trees():
+            calls = [node for node in ast.walk(tree) if isinstance(node, ast.Call) and isinstance(node.func, ast.Name)]
+            spots = {id(node.iter) for node in ast.walk(tree) if isinstance(node, (ast.For, ast.comprehension))}
+            spots |= {id(node.args[0]) for node in calls if node.func.id in TAKERS and node.args}
+            called = [node for node in calls if node.func.id in yielding]
+            self.assertLessEqual({id(node) for node in called}, spots, path.name)
+            named = [node for node in ast.walk(tree) if isinstance(node, ast.Name) and node.id in yielding]
+            self.assertEqual(len(named), len(called), path.name)
 
     def test_methods_of_plain_values(self):
         own = {node.name for _, tree in trees() for node in ast.walk(tree) if isinstance(node, ast.FunctionDef)}

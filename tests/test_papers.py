@@ -4,6 +4,7 @@ import unittest
 
 from tests.asking import Asking
 from thincoins.dials import Any, Barred, Dial
+from thincoins.farthest import Apart, Steps
 from thincoins.handings import Comes, OnBreak, Rare
 from thincoins.friends import Level, Most, MostBreak, Power
 from thincoins.hulls import Hull
@@ -14,16 +15,19 @@ from thincoins.placings import Sums
 from thincoins.polygons import Polygon
 from thincoins.surely import RareFrom, SureFrom
 from thincoins.tails import Below, NotBelow
+from thincoins.thinside import Trees, TreesBreak
+from thincoins.threelooks import DialBreak
 
 CLASSES = (
     (Alike, ("laying",)), (Comes, ("handing",)), (Dial, ("ratio", "part")), (Any, ()),
     (Polygon, ("lines", "corners")), (SureFrom, ("m",)), (RareFrom, ("m", "part")), (Everywhere, ("handing",)),
     (Hull, ("part", "weight", "greatest")), (Sums, ("mean", "pairs")), (Below, ("terms", "bound")), (Power, ("weight",)),
-    (Most, ("number", "lot")),
+    (Most, ("number", "lot")), (Steps, ("number",)), (Trees, ("number",)),
 )
 DENIALS = (
     (Unlike, ("what",)), (Rare, ("part",)), (OnBreak, ("part",)), (Barred, ("part",)), (Seldom, ("part",)),
     (NamesBreak, ("part",)), (NotBelow, ("bound",)), (MostBreak, ("number", "lot")), (Level, ()),
+    (Apart, ()), (TreesBreak, ("number",)), (DialBreak, ("ratio",)),
 )
 VALUES = (None, True, 3, "x", [1, [2, (3, [4])]], (), [], {"a": [1]}, object(), Paper("in"))
 

@@ -1,6 +1,6 @@
 """Texts: items with single blanks between, written and read one by one."""
 
-from thincoins.checks import DIGITS
+from thincoins.checks import DIGITS, is_name, is_within
 from thincoins.errors import BadText
 
 MOST_DIGITS = 60
@@ -54,17 +54,36 @@ class Reader:
             raise BadText(0, self.taken)
         self.taken += 1
 
+    def take_one_of(self, words):
+        """Takes one of these items, which must come next, and returns it."""
+        if self.is_at_end() or self.words[self.taken] not in words:
+            raise BadText(0, self.taken)
+        self.taken += 1
+        return self.words[self.taken - 1]
+
     def take_integer(self, least, most):
-        """Takes an item that writes an integer from least to most, and returns the integer."""
-        if self.taken == len(self.words):
+        """Takes an item that writes an integer from least to most, and returns the integer; None is
+        no bound."""
+        if self.is_at_end():
             raise BadText(0, self.taken)
         number = integer_of(self.words[self.taken])
-        if number is None or not least <= number <= most:
+        if not is_within(number, least, most):
             raise BadText(0, self.taken)
         self.taken += 1
         return number
 
+    def take_name(self):
+        """Takes an item that can name a web at a desk, and returns it."""
+        if self.is_at_end() or not is_name(self.words[self.taken]):
+            raise BadText(0, self.taken)
+        self.taken += 1
+        return self.words[self.taken - 1]
+
+    def is_at_end(self):
+        """Whether all items are taken."""
+        return self.taken == len(self.words)
+
     def take_end(self):
         """Nothing more must come."""
-        if self.taken < len(self.words):
+        if not self.is_at_end():
             raise BadText(0, self.taken)
