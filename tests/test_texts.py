@@ -48,6 +48,19 @@ class TestItems(Asking):
         self.refused(BadText(0, 5), reader.take_word, "x")
         self.assertFalse(reader.sees("x"))
 
+    def test_items_of_lines(self):
+        reader = Reader("drop a1 0 7".split(" "), 0)
+        self.refused(BadText(0, 0), reader.take_one_of, ("dro", "drop a1"))
+        self.exactly(reader.take_one_of(("tie", "drop")), "drop")
+        self.refused(BadText(0, 1), reader.take_integer, None, None)
+        self.exactly(reader.take_name(), "a1")
+        self.refused(BadText(0, 2), reader.take_name)
+        self.refused(BadText(0, 2), reader.take_integer, 1, None)
+        self.exactly((reader.take_integer(0, None), reader.is_at_end()), (0, False))
+        self.exactly((reader.take_integer(None, 7), reader.is_at_end()), (7, True))
+        self.refused(BadText(0, 4), reader.take_name)
+        self.refused(BadText(0, 4), reader.take_one_of, ("drop",))
+
 
 if __name__ == "__main__":
     unittest.main()
